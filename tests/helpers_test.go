@@ -130,3 +130,51 @@ func placesOf(list []byte) impl.Places {
 	copy(p[:], list)
 	return p
 }
+
+// allLoops calls each with all loops of order n.
+func allLoops(n int, each func(q impl.Square)) {
+	q := impl.Square{Order: int64(n)}
+	for x := range n {
+		q.Table[0][x], q.Table[x][0] = byte(x), byte(x)
+	}
+	var fill func(place int)
+	fill = func(place int) {
+		x, y := place/n, place%n
+		if x == n {
+			each(q)
+			return
+		}
+		if x == 0 || y == 0 {
+			fill(place + 1)
+			return
+		}
+		for z := range byte(n) {
+			met := slices.Contains(q.Table[x][:y], z)
+			for above := range x {
+				met = met || q.Table[above][y] == z
+			}
+			if !met {
+				q.Table[x][y] = z
+				fill(place + 1)
+			}
+		}
+	}
+	fill(0)
+}
+
+// steinerOf10 returns the loop of order 10 in which 0 is neutral, x * x is 0, and the product of two
+// other points of the plane of nine points is the third one on their line.
+func steinerOf10() impl.Square {
+	q := impl.Square{Order: 10}
+	for x := range byte(10) {
+		q.Table[0][x], q.Table[x][0] = x, x
+	}
+	for x := range byte(9) {
+		for y := range byte(9) {
+			if x != y {
+				q.Table[1+x][1+y] = 1 + (6-x/3-y/3)%3*3 + (6-x%3-y%3)%3
+			}
+		}
+	}
+	return q
+}
