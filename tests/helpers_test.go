@@ -178,3 +178,14 @@ func steinerOf10() impl.Square {
 	}
 	return q
 }
+
+// numbersIn returns the numbers of a set in ascending order.
+func numbersIn(set uint) []int64 {
+	var list []int64
+	for x := range int64(impl.MaxOrder + 1) {
+		if set>>x&1 == 1 {
+			list = append(list, x)
+		}
+	}
+	return list
+}

@@ -111,13 +111,7 @@ func leastWith(blocks []uint, x int64, y int64) []int64 {
 			least = set
 		}
 	}
-	var list []int64
-	for z := range int64(impl.MaxOrder) {
-		if least>>z&1 == 1 {
-			list = append(list, z)
-		}
-	}
-	return list
+	return numbersIn(least)
 }
 
 // orbitsByTrial returns the orbits of a group with some permutations.
