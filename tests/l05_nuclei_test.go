@@ -335,6 +335,21 @@ func generatedByTrial(subloops []uint, set uint) uint {
 	return common
 }
 
+// checkClosed checks which sets of elements of a loop are told to be closed, and what is told to be the least
+// closed set with each set, if some sets are the closed ones.
+func checkClosed(t *testing.T, q impl.Square, closed []uint, isClosed func(q impl.Square, list []int64) (bool, int64), closure func(q impl.Square, list []int64) ([]int64, int64)) {
+	t.Helper()
+	for set := range uint(1) << q.Order {
+		list := numbersIn(set)
+		if yes, code := isClosed(q, list); yes != slices.Contains(closed, set) || code != impl.ErrNone {
+			t.Errorf("%v: %v is closed: %v, %d", q, list, yes, code)
+		}
+		if made, code := closure(q, list); !slices.Equal(made, numbersIn(generatedByTrial(closed, set))) || code != impl.ErrNone {
+			t.Errorf("%v: the closure of %v is %v, %d", q, list, made, code)
+		}
+	}
+}
+
 // checkSubloops checks what is told of all subloops of a loop, and of all its sets of elements.
 func checkSubloops(t *testing.T, q impl.Square) {
 	t.Helper()
@@ -342,15 +357,7 @@ func checkSubloops(t *testing.T, q impl.Square) {
 	if lists, code := impl.AllSubloops(q); !sameLists(lists, listsIn(subloops)) || code != impl.ErrNone {
 		t.Errorf("%v: AllSubloops = %v, %d", q, lists, code)
 	}
-	for set := range uint(1) << q.Order {
-		list := numbersIn(set)
-		if yes, code := impl.IsSubloop(q, list); yes != slices.Contains(subloops, set) || code != impl.ErrNone {
-			t.Errorf("%v: IsSubloop(%v) = %v, %d", q, list, yes, code)
-		}
-		if made, code := impl.SubloopOf(q, list); !slices.Equal(made, numbersIn(generatedByTrial(subloops, set))) || code != impl.ErrNone {
-			t.Errorf("%v: SubloopOf(%v) = %v, %d", q, list, made, code)
-		}
-	}
+	checkClosed(t, q, subloops, impl.IsSubloop, impl.SubloopOf)
 }
 
 func TestSubloopsByTrial(t *testing.T) {
