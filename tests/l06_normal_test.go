@@ -717,7 +717,9 @@ func TestKernelsAndImages(t *testing.T) {
 			}
 		}
 	}
-	smallLoops(func(q impl.Square) { checkKernels(t, q, q) })
+	for n := 1; n <= 6; n++ {
+		allLoops(n, func(q impl.Square) { checkKernels(t, q, q) })
+	}
 }
 
 func TestKernelsAndImagesOfExamples(t *testing.T) {
