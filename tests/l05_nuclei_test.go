@@ -963,9 +963,26 @@ func badSets(n int64) [][]int64 {
 	return sets
 }
 
+// eachNoLoop calls each with what is no square, and with squares that are no loops, and tells why.
+func eachNoLoop(t *testing.T, each func(reason string, q impl.Square)) {
+	t.Helper()
+	for reason, q := range noSquares(t) {
+		each(reason, q)
+	}
+	for _, q := range append(manySquares(t), allSquaresOfOrderThree()...) {
+		if !impl.IsLoop(q) {
+			each("no loop", q)
+		}
+	}
+	nearly := squareOf(t, textOfTurns3)
+	nearly.Table[1], nearly.Table[2] = nearly.Table[2], nearly.Table[1]
+	each("0 is neutral on one side alone", nearly)
+	each("0 is neutral on the other side alone", oppositeIn(t, nearly))
+}
+
 // That something is no loop goes before that something is not in its range.
 func TestNucleiErrorsOfLoops(t *testing.T) {
-	check := func(reason string, q impl.Square) {
+	eachNoLoop(t, func(reason string, q impl.Square) {
 		checkNoList(t, reason, q)
 		for _, x := range []byte{0, 1, 2, 9, 10, 255} {
 			checkElementCodes(t, reason, q, x, 0, impl.ErrInvalid)
@@ -973,19 +990,7 @@ func TestNucleiErrorsOfLoops(t *testing.T) {
 		for _, list := range append(badSets(3), nil, []int64{}, []int64{0}, []int64{0, 1}) {
 			checkSetCodes(t, reason, q, list, impl.ErrInvalid)
 		}
-	}
-	for reason, q := range noSquares(t) {
-		check(reason, q)
-	}
-	for _, q := range append(manySquares(t), allSquaresOfOrderThree()...) {
-		if !impl.IsLoop(q) {
-			check("no loop", q)
-		}
-	}
-	nearly := squareOf(t, textOfTurns3)
-	nearly.Table[1], nearly.Table[2] = nearly.Table[2], nearly.Table[1]
-	check("0 is neutral on one side alone", nearly)
-	check("0 is neutral on the other side alone", oppositeIn(t, nearly))
+	})
 }
 
 func TestNucleiErrorsOfElements(t *testing.T) {
