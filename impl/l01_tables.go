@@ -133,11 +133,8 @@ func SquareOfLists(lists [][]int64) (Square, int64) {
 	return q, ErrNone
 }
 
-// ListsOfSquare returns the rows of q, and ErrNone.
-func ListsOfSquare(q Square) ([][]int64, int64) {
-	if !IsSquare(q) {
-		return nil, ErrInvalid
-	}
+// rowListsOf returns the first rows of the table of q as lists.
+func rowListsOf(q Square) [][]int64 {
 	lists := make([][]int64, 0, q.Order)
 	for _, row := range q.Table[:q.Order] {
 		list := make([]int64, 0, q.Order)
@@ -146,7 +143,15 @@ func ListsOfSquare(q Square) ([][]int64, int64) {
 		}
 		lists = append(lists, list)
 	}
-	return lists, ErrNone
+	return lists
+}
+
+// ListsOfSquare returns the rows of q, and ErrNone.
+func ListsOfSquare(q Square) ([][]int64, int64) {
+	if !IsSquare(q) {
+		return nil, ErrInvalid
+	}
+	return rowListsOf(q), ErrNone
 }
 
 // ProductIn returns x * y, and ErrNone.
